@@ -1,0 +1,1 @@
+"""A traveller's day: plans, journeys and tickets. See travelday.desk."""
